@@ -1,0 +1,1 @@
+"""Outandover: stepping through programs so that nothing wished is passed."""

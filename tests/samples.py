@@ -1,0 +1,97 @@
+"""Values that the tests share."""
+
+from random import Random
+
+MAIN = ('main', ((('f',), (1,), (('', 2),)), (('',), (('back',), 0), ()), (('', 'g'), (('back',),), ())))
+F = ('f', ((('',), (1, ('fail', 'bad')), ()), (('', 'g'), (('back',),), ())))
+G = ('g', ((('',), (('back',),), ()),))
+PROGRAM = (MAIN, F, G)
+RUN = (0, 0, 0, 1, 0, 0, 0, 0, 0, 0)
+AGAIN = (('again', ((('', 'again'), (1,), ()), (('',), (('back',),), ()))),)
+TWICE = (('twice', ((('', 'twice'), (1,), ()), (('', 'twice'), (('back',),), ()))),)
+BACK = ('back',)
+
+# Three functions that call one another in a ring, and one that nothing calls.
+RING = (
+    ('a', ((('b',), (1, BACK), ()), (('', 'a'), (BACK,), ()))),
+    ('b', ((('c',), (BACK, ('fail', 'x')), ()),)),
+    ('c', ((('', 'a'), (BACK, ('fail', 'y')), (('x', 1), ('', 0))), (('',), (BACK,), ()))),
+    ('lone', ((('', 'lone'), (BACK,), ()),)),
+)
+
+# Faults that are handled by a kind, by the first of two handlers that fit, by "", and by none, deep down.
+FAULTS = (
+    ('top', (
+        (('mid',), (4,), (('red', 1), ('', 2), ('blue', 3))),
+        (('',), (BACK,), ()),
+        (('',), (BACK,), ()),
+        (('',), (BACK,), ()),
+        (('', 'mid'), (BACK, ('fail', 'last')), (('blue', 3),)),
+    )),
+    ('mid', ((('low', 'mid'), (BACK,), (('green', 1),)), (('',), (BACK,), ()))),
+    ('low', ((('',), (BACK, ('fail', 'blue'), ('fail', 'green'), ('fail', 'red')), ()),)),
+)
+
+# Frames that never end: nothing leads out of loops, and waits has no way to come back from them.
+STUCK = (
+    ('begins', ((('', 'loops'), (1,), ()), (('waits',), (BACK,), (('', 0),)))),
+    ('loops', ((('',), (0,), ()),)),
+    ('waits', ((('loops',), (BACK, 1), ()), (('',), (BACK,), ()))),
+)
+
+SAMPLES = (PROGRAM, AGAIN, TWICE, RING, FAULTS, STUCK, (F, G), (G,))
+
+
+def nested(depth, inner=()):
+    """A tuple nested so deep."""
+    for _ in range(depth):
+        inner = (inner,)
+    return inner
+
+
+def anything():
+    """Values of every kind, new ones each time."""
+    return [
+        0, 1, -1, 10 ** 59, True, False, None, '', 'f', 'main', 'again', 'F', 'a b', 'x\ny', 'ninechars', 'step',
+        (), [], [[]], ((),), ('f',), ['f'], ('f', 0), ['f', 0], ('f', True), ('f', False), ('f', -1), ('f', 0, 0),
+        ('f', '0'), ('', 0), ('F', 0), (0, 'f'), ('f', None), ('back',), ['back'], ('back', 'f'), ('fail',),
+        ('fail', 'bad'), ('fail', ''), ('fail', 'Bad'), ['fail', 'bad'], ('f', ()), ('f', []), (('f', 0),),
+        (0,), (True,), (0, 1, 2), ('life', 0), nested(30), nested(29, [1]), [nested(29)], (1, [2, (None, 'x')]),
+        (((), (), ()),), ((('',), (('back',),), ()),), PROGRAM, list(PROGRAM), MAIN, list(MAIN), G, ('f', (G,)),
+        tuple(range(5000)), ['x'] * 5000,
+    ]
+
+
+def random_program(seed):
+    """A small program; the same one for the same seed."""
+    chance = Random(seed)
+    names = ['a', 'b', 'c', 'd'][:chance.randint(1, 4)]
+    chance.shuffle(names)
+    return tuple([(name, random_lines(chance, names)) for name in names])
+
+
+def random_lines(chance, names):
+    """Lines of a function of a program with these names."""
+    many = chance.randint(1, 4)
+    ends = [BACK, ('fail', 'x'), ('fail', 'y')]
+    lines = []
+    for _ in range(many):
+        calls = sorted(chance.sample([''] + names, chance.randint(1, min(3, len(names) + 1))))
+        known = list(range(many)) + ends
+        ways = chance.sample(known, chance.randint(1, 3))
+        kinds = chance.sample(['', 'x', 'y'], chance.randint(0, 2))
+        handlers = tuple([(kind, chance.randrange(many)) for kind in kinds])
+        lines.append((tuple(calls), tuple(ways), handlers))
+    return tuple(lines)
+
+
+def random_run(program, seed, length):
+    """A run of at most so many choices, made by the oracle."""
+    from oracle import Machine
+    chance = Random(seed)
+    machine = Machine(program)
+    run = []
+    while len(run) < length and machine.options() > 0:
+        run.append(chance.randrange(machine.options()))
+        machine.choose(run[-1])
+    return tuple(run)
