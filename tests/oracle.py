@@ -98,3 +98,101 @@ def written(packed):
         else:
             choices.append(item)
     return tuple(choices)
+
+
+def counts_by_states(program, most):
+    """How many runs there are with 0, 1, 2 and so on choices, kept by the states behind them."""
+    counts = [1]
+    states = {(((program[0][0], 0),), False): 1}
+    for _ in range(most):
+        following = {}
+        for (frames, behind), many in states.items():
+            for choice in range(machine_at(program, frames, behind).options()):
+                machine = machine_at(program, frames, behind)
+                machine.choose(choice)
+                state = (machine.frames(), machine.behind)
+                following[state] = following.get(state, 0) + many
+        counts.append(sum(following.values()))
+        states = {state: many for state, many in following.items() if state[0]}
+    return counts
+
+
+def machine_at(program, frames, behind):
+    """A machine whose frames stand there."""
+    machine = Machine(program, frames)
+    machine.behind = behind
+    return machine
+
+
+def packed_by_chance(program, choices, chance, frames=None):
+    """A packed rest that stands for these choices; frames that have ended may become lives."""
+    machine = Machine(program, frames)
+    lowest = machine.frames()
+    lives = []
+    levels = [[]]
+    names = []
+    for choice in choices:
+        depth = len(machine.stack)
+        lower = depth - len(names)
+        machine.choose(choice)
+        levels[-1].append(choice)
+        if len(machine.stack) > depth:
+            levels.append([])
+            names.append(machine.stack[-1][0])
+        while names and lower + len(names) > len(machine.stack):
+            close_level(levels, lives, names.pop(), chance)
+    items = [item for level in levels for item in level]
+    return (lowest, tuple(lives), tuple(items))
+
+
+def close_level(levels, lives, name, chance):
+    """Ends the last of the levels: as a life, or item by item."""
+    inner = levels.pop()
+    if chance.random() < 0.6:
+        lives.append((name, tuple(inner)))
+        levels[-1].append(('life', len(lives) - 1))
+    else:
+        levels[-1].extend(inner)
+
+
+def table_by_rules(program, cut):
+    """For each function the sets of lines, ends and touched spots, by rules that are tried until nothing is new."""
+    lines = {name: {0} for name, _ in program}
+    ends = {name: set() for name, _ in program}
+    touched = {name: set() for name, _ in program}
+    before = None
+    while before != repr((sizes(lines), sizes(ends), sizes(touched))):
+        before = repr((sizes(lines), sizes(ends), sizes(touched)))
+        for name, own in program:
+            for index in list(lines[name]):
+                touched[name].add((name, index))
+                if (name, index) not in cut:
+                    apply_rules(own[index], lines, ends, touched, name)
+    return {name: (lines[name], ends[name], touched[name]) for name in lines}
+
+
+def sizes(table):
+    return [len(part) for part in table.values()]
+
+
+def apply_rules(line, lines, ends, touched, name):
+    """One round of the rules for one line at which frames of the function arrive."""
+    calls, ways, handlers = line
+    outcomes = set()
+    for call in calls:
+        if call == '':
+            outcomes.add(('back',))
+        else:
+            outcomes |= ends[call]
+            touched[name] |= touched[call]
+    if ('back',) in outcomes:
+        outcomes.discard(('back',))
+        outcomes |= set(ways)
+    for outcome in outcomes:
+        if isinstance(outcome, tuple) and outcome[0] == 'fail':
+            fitting = [index for kind, index in handlers if kind in ('', outcome[1])]
+            outcome = fitting[0] if fitting else outcome
+        if isinstance(outcome, int):
+            lines[name].add(outcome)
+        else:
+            ends[name].add(outcome)

@@ -2,6 +2,8 @@
 
 from random import Random
 
+from oracle import Machine
+
 MAIN = ('main', ((('f',), (1,), (('', 2),)), (('',), (('back',), 0), ()), (('', 'g'), (('back',),), ())))
 F = ('f', ((('',), (1, ('fail', 'bad')), ()), (('', 'g'), (('back',),), ())))
 G = ('g', ((('',), (('back',),), ()),))
@@ -87,7 +89,6 @@ def random_lines(chance, names):
 
 def random_run(program, seed, length):
     """A run of at most so many choices, made by the oracle."""
-    from oracle import Machine
     chance = Random(seed)
     machine = Machine(program)
     run = []

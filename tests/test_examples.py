@@ -56,7 +56,87 @@ TEXTS = r"""
     raises InvalidText(line=2, field=1)
 """
 
-BLOCKS = (KINDS, CHECKER, PARTS, CHANGES, TEXTS)
+PROGRAMS = """
+    >>> from outandover.programs import Program
+    >>> program = Program(AGAIN) + G
+    >>> [program.first, len(program), ('g', 0) in program, program['g'] == G[1], program - 'g' == Program(AGAIN), Program().spots]
+    ['again', 3, True, True, True, (('main', 0),)]
+"""
+
+SPOTS = """
+    >>> from outandover.spotsets import Spots
+    >>> a, b = Spots(('g', 0), ('f', 1)), Spots.read('g:0 h:10 h:9')
+    >>> [str(a | b), str(a ^ b), (a & b).members, a.lies_in(b), len(b), str(a - a)]
+    ['f:1 g:0 h:9 h:10', 'f:1 h:9 h:10', (('g', 0),), False, 3, '-']
+"""
+
+CHOOSING = """
+    >>> from outandover.choosing import is_run, options_after
+    >>> [options_after(PROGRAM, ()), options_after(PROGRAM, RUN[:3]), options_after(PROGRAM, RUN), is_run(PROGRAM, RUN + (0,))]
+    [1, 2, 0, False]
+    >>> from outandover.choosing import arrivals_of
+    >>> arrivals_of(PROGRAM, (0, 0, 1))
+    ((0, ('main', 0)), (1, ('f', 0)), (0, ('main', 2)))
+    >>> arrivals_of(PROGRAM, (0, 0, 2))
+    raises NotUsable(word='choice', at=2)
+    >>> from outandover.choosing import end_of, frames_after, is_behind
+    >>> [frames_after(PROGRAM, RUN[:6]), is_behind(PROGRAM, RUN[:6]), end_of(PROGRAM, RUN[:6]), end_of(PROGRAM, RUN)]
+    [(('main', 0), ('f', 1)), True, (), ('back',)]
+"""
+
+LISTING = """
+    >>> from outandover.listing import how_many_runs, runs_of
+    >>> [list(runs_of(PROGRAM, 3)), how_many_runs(PROGRAM, 5), how_many_runs(PROGRAM, 6)]
+    [[(0, 0, 0), (0, 0, 1)], 4, 3]
+"""
+
+PACKED = """
+    >>> from outandover.packedchecker import lets_packed
+    >>> LIVES = (('g', (0, 0)), ('f', (0, 0, 1, ('life', 0), 0)))
+    >>> PACKED = ((('main', 0),), LIVES, (0, ('life', 1), 0))
+    >>> lets_packed(PROGRAM, PACKED)
+    4
+    >>> lets_packed(PROGRAM, ((('main', 0),), LIVES, (0, ('life', 0), 0)))
+    raises InvalidPaper(word='item', at=(-1, 1))
+"""
+
+PACKING = """
+    >>> from outandover.packing import packed_of, written_out
+    >>> [written_out(PROGRAM, PACKED), written_out(PROGRAM, packed_of(PROGRAM, RUN)) == RUN]
+    [(0, 0, 0, 1, 0, 0, 0, 0), True]
+    >>> from outandover.packing import arrivals_in, end_behind, frames_behind, joined
+    >>> TWICE = (('twice', ((('', 'twice'), (1,), ()), (('', 'twice'), (('back',),), ()))),)
+    >>> LONG = ((('twice', 0),), (('twice', (0, 0, 0, 0)), ('twice', (1, ('life', 0), 0, 1, ('life', 0), 0))), (1, ('life', 1)))
+    >>> [arrivals_in(TWICE, LONG), arrivals_in(TWICE, LONG, at=('twice', 1)), frames_behind(TWICE, LONG), end_behind(PROGRAM, PACKED)]
+    [6, 3, (('twice', 0),), ()]
+    >>> written_out(PROGRAM, joined(PROGRAM, PACKED, ((('main', 1),), (), (0, 0)))) == RUN
+    True
+    >>> joined(TWICE, LONG, ((('twice', 0),), (), ()))
+    raises NotUsable(word='frames', at=-1)
+"""
+
+WALKS = """
+    >>> from outandover.walks import Walk
+    >>> walk = Walk(PROGRAM)
+    >>> [walk.take(0), walk.take_all(0, 0), walk.here, walk[1], len(walk)]
+    [1, 2, ('f', 1), (1, ('f', 0)), 3]
+    >>> [walk.set_given(1), walk.frames, walk.back(), walk.choices, walk((0, 0)).frames]
+    [1, (('main', 0), ('f', 1), ('g', 0)), 1, (0, 0, 0), (('main', 0),)]
+    >>> walk.take(2)
+    raises NotUsable(word='choice', at=3)
+"""
+
+TABLES = """
+    >>> from outandover.tables import inside_of, least_table, rest_of
+    >>> [least_table(PROGRAM)[0], inside_of(PROGRAM, ('main', 0))]
+    [('f', (0, 1), (('back',), ('fail', 'bad')), (('f', 0), ('f', 1), ('g', 0))), (('f', 0), ('f', 1), ('g', 0))]
+    >>> rest_of(AGAIN, ('again', 0), cut=(('again', 0),))
+    ((('again', 0), ('again', 1)), (('back',),))
+"""
+
+BLOCKS = (
+    KINDS, CHECKER, PARTS, CHANGES, TEXTS, PROGRAMS, SPOTS, CHOOSING, LISTING, PACKED, PACKING, WALKS, TABLES,
+)
 
 
 def rows_of(block):

@@ -4,6 +4,8 @@ import importlib
 import inspect
 import unittest
 
+from outandover.programs import SHORTEST
+
 FUNCTIONS = {
     'kinds': {
         'is_integer': 'thing', 'is_number': 'thing', 'is_name': 'thing', 'is_spot': 'thing', 'is_way': 'thing',
@@ -20,6 +22,20 @@ FUNCTIONS = {
     },
     'programtexts': {'program_text': 'program', 'line_text': 'line', 'spots_text': 'spots'},
     'programreadings': {'program_read': 'text', 'line_read': 'text', 'spots_read': 'text'},
+    'choosing': {
+        'options_after': 'program, run', 'is_run': 'program, thing', 'arrivals_of': 'program, run',
+        'frames_after': 'program, run', 'is_behind': 'program, run', 'end_of': 'program, run',
+    },
+    'listing': {'runs_of': 'program, count', 'how_many_runs': 'program, count'},
+    'packedchecker': {'lets_packed': 'program, thing'},
+    'packing': {
+        'written_out': 'program, packed', 'packed_of': 'program, run', 'arrivals_in': 'program, packed, *, at=()',
+        'frames_behind': 'program, packed', 'end_behind': 'program, packed', 'joined': 'program, packed, other',
+    },
+    'tables': {
+        'least_table': 'program, *, cut=()', 'rest_of': 'program, spot, *, cut=()',
+        'inside_of': 'program, spot, *, cut=()',
+    },
 }
 
 CLASSES = {
@@ -30,9 +46,35 @@ CLASSES = {
         'BrokenOff': {'__init__': 'self, count'}, 'InvalidText': {'__init__': 'self, line, field'},
         'InvalidRow': {'__init__': 'self, row'},
     },
+    'programs': {
+        'Program': {
+            '__init__': f'self, functions={SHORTEST!r}', '__add__': 'self, other', '__sub__': 'self, other',
+            '__getitem__': 'self, at', '__contains__': 'self, x', '__len__': 'self', '__eq__': 'self, other',
+            '__str__': 'self', 'read': 'cls, text', 'one_function': '*lines',
+        },
+    },
+    'spotsets': {
+        'Spots': {
+            '__init__': 'self, *spots', '__or__': 'self, other', '__and__': 'self, other', '__sub__': 'self, other',
+            '__xor__': 'self, other', '__ior__': 'self, other', '__iand__': 'self, other', '__isub__': 'self, other',
+            'lies_in': 'self, other', '__contains__': 'self, x', '__len__': 'self', '__eq__': 'self, other',
+            '__str__': 'self', '__iter__': 'self', 'of_program': 'cls, program', 'read': 'cls, text',
+        },
+    },
+    'walks': {
+        'Walk': {
+            '__init__': 'self, program', 'take': 'self, choice', 'take_all': 'self, *choices', 'back': 'self',
+            'copy': 'self', 'set_given': 'self, choice', '__len__': 'self', '__iter__': 'self',
+            '__getitem__': 'self, at', '__eq__': 'self, other', '__call__': 'self, choices',
+        },
+    },
 }
 
-PROPERTIES = {}
+PROPERTIES = {
+    'programs': {'Program': 'functions first spots'},
+    'spotsets': {'Spots': 'members'},
+    'walks': {'Walk': 'choices frames here is_over options given'},
+}
 
 
 def module_of(name):
@@ -59,6 +101,16 @@ class InterfaceTest(unittest.TestCase):
                     own = vars(found)[method]
                     function = own.__func__ if isinstance(own, (classmethod, staticmethod)) else own
                     self.assertEqual(str(inspect.signature(function)), f'({parameters})', f'{name}.{method}')
+
+    def test_kinds_of_methods(self):
+        for name, word, kind in (('programs', 'read', classmethod), ('programs', 'one_function', staticmethod),
+                                 ('spotsets', 'read', classmethod), ('spotsets', 'of_program', classmethod)):
+            found = [own for own in vars(module_of(name)).values() if inspect.isclass(own) and word in vars(own)]
+            self.assertEqual([vars(own)[word].__class__ for own in found], [kind])
+
+    def test_attributes(self):
+        walk = module_of('walks').Walk(SHORTEST)
+        self.assertIn('program', vars(walk))
 
     def test_properties(self):
         for module, table in PROPERTIES.items():
