@@ -1,7 +1,8 @@
 """Where frames can arrive and how they can end, by what calls can end by.
 
-ends is a dict that tells for each function the ends of its frames; a cut is a
-set of spots behind which nothing is chosen.
+ends is a dict that tells for each function the ends of its frames, rows one
+that tells for each the triple of its lines, its ends and the spots that it
+touches; a cut is a set of spots behind which nothing is chosen.
 """
 
 from outandover.kinds import BACK, is_number
@@ -86,3 +87,32 @@ def touched_from(names, called, lines):
             found[name] = True
             waiting.extend(called[name])
     return tuple(sorted([(name, index) for name in found for index in lines[name]]))
+
+
+def ends_in(rows):
+    """The dict of the ends of the functions by their rows."""
+    return {name: rows[name][1] for name in rows}
+
+
+def rest_by_rows(book, rows, spot, cut):
+    """The pair of the spots that a frame touches behind an arrival at the spot, and of its ends then.
+
+    Calls touch, and end, as the rows of their functions tell.
+    """
+    name, index = spot
+    ends = ends_in(rows)
+    lines, over = spread(book, ends, name, steps_of(book, ends, spot), cut)
+    # The arrival that is looked at is not cut, so its own calls are made in any case.
+    called = called_at(book, name, (index,), ()) + called_at(book, name, lines, cut)
+    return (touched_by_rows(rows, called, [(name, line) for line in lines]), over)
+
+
+def inside_by_rows(book, rows, spot):
+    """The set of the spots that calls of the line at the spot touch by the rows."""
+    return touched_by_rows(rows, called_at(book, spot[0], (spot[1],), ()), [])
+
+
+def touched_by_rows(rows, names, own):
+    """The set of the spots that the rows of these functions touch, and of a frame's own."""
+    inside = [spot for name in names for spot in rows[name][2]]
+    return tuple(sorted(set(inside + own)))

@@ -3,6 +3,7 @@
 LETTERS = "abcdefghijklmnopqrstuvwxyz"
 LONGEST_NAME = 8
 COMMANDS = ("step", "next", "out", "go")
+STEPPING = ("step", "next", "out")
 BACK = ("back",)
 
 
@@ -90,6 +91,31 @@ def is_choices(thing):
 def is_command(thing):
     """One of the four commands."""
     return isinstance(thing, str) and thing in COMMANDS
+
+
+def is_stepping(thing):
+    """One of the commands that steppers give."""
+    return isinstance(thing, str) and thing in STEPPING
+
+
+def is_spots(thing):
+    """A set of spots by form."""
+    return isinstance(thing, tuple) and all([is_spot(spot) for spot in thing]) and is_ascending(thing)
+
+
+def is_numbers(thing):
+    """A set of numbers."""
+    return is_choices(thing) and is_ascending(thing)
+
+
+def is_ends(thing):
+    """A set of ends."""
+    return isinstance(thing, tuple) and all([is_end(end) for end in thing]) and is_ascending(thing)
+
+
+def is_paper(thing, words):
+    """A pair of one of these words and any value."""
+    return is_pair(thing) and isinstance(thing[0], str) and thing[0] in words
 
 
 def is_ascending(things):

@@ -99,3 +99,15 @@ def has_arrived(state):
     """Whether the last of the frames has just arrived at its spot."""
     frames, behind, _ = state
     return frames != () and not behind
+
+
+def stands_at(state, spots):
+    """Whether the last of the frames has just arrived at one of these spots."""
+    return has_arrived(state) and state[0][-1] in spots
+
+
+def lands(command, depth, given):
+    """Whether a command that was given at one depth lands at a later arrival of this depth."""
+    if command == "step":
+        return True
+    return depth <= given if command == "next" else command == "out" and depth < given

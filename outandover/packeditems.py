@@ -3,7 +3,7 @@
 A tally is a tuple (state, called, length, arrivals, hits): the state behind
 some items, the function whose frame began by the last of them, "" if none did,
 and of the choices that they stand for how many they are, how many arrivals
-come by them, and how many of these are at the spot that is looked for.
+come by them, and how many of these are at the spots that are looked for.
 """
 
 from outandover.errors import InvalidPaper
@@ -11,37 +11,42 @@ from outandover.kinds import is_number
 from outandover.moves import begun, can_choose, chosen, ended, has_arrived
 
 
-def tally_of_packed(book, packed, spot):
+def tally_of_packed(book, packed, spots):
     """The tally of a packed rest, or InvalidPaper for the first fault of its lives and items."""
+    return tallies_of_packed(book, packed, spots)[-1]
+
+
+def tallies_of_packed(book, packed, spots):
+    """The tallies of a packed rest, of its beginning and behind each of its items, or InvalidPaper."""
     frames, lives, items = packed
     closed = []
     for k, (name, inner) in enumerate(lives):
         if name not in book:
             raise InvalidPaper("name", k)
-        tally = tally_of_items(book, ((name, 0),), inner, k, (closed, spot))
+        tally = tallies_of_items(book, ((name, 0),), inner, k, (closed, spots))[-1]
         if tally[0][0] != ():
             raise InvalidPaper("open", k)
         closed.append((name, tally))
-    return tally_of_items(book, frames, items, -1, (closed, spot))
+    return tallies_of_items(book, frames, items, -1, (closed, spots))
 
 
-def tally_of_items(book, frames, items, where, known):
-    """The tally of items behind these frames; where is what an error says of their place.
+def tallies_of_items(book, frames, items, where, known):
+    """The tallies along items of these frames; where is what an error says of their place.
 
     known is the pair of the lives that can stand here, pairs of their function
-    and their tally, and of the spot that is looked for.
+    and their tally, and of the spots that are looked for.
     """
-    tally = (begun(frames), "", 0, 0, 0)
+    closed, spots = known
+    tallies = [(begun(frames), "", 0, 0, 0)]
     for i, item in enumerate(items):
-        closed, spot = known
         if is_number(item):
-            moved = moved_by_choice(book, tally, item)
+            moved = moved_by_choice(book, tallies[-1], item)
         else:
-            moved = moved_by_life(book, tally, item[1], closed)
+            moved = moved_by_life(book, tallies[-1], item[1], closed)
         if moved is None:
             raise InvalidPaper("item", (where, i))
-        tally = with_arrival(moved, spot)
-    return tally
+        tallies.append(with_arrival(moved, spots))
+    return tallies
 
 
 def moved_by_choice(book, tally, choice):
@@ -64,9 +69,9 @@ def moved_by_life(book, tally, k, closed):
     return (moved, "", length + inner[2], arrivals + inner[3], hits + inner[4])
 
 
-def with_arrival(tally, spot):
+def with_arrival(tally, spots):
     """The tally with the arrival that the last item made, if it made one."""
     state, called, length, arrivals, hits = tally
     if not has_arrived(state):
         return tally
-    return (state, called, length, arrivals + 1, hits + 1 if state[0][-1] == spot else hits)
+    return (state, called, length, arrivals + 1, hits + 1 if state[0][-1] in spots else hits)

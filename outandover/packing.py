@@ -5,7 +5,7 @@ from outandover.errors import NotUsable
 from outandover.kinds import is_number
 from outandover.moves import book_of, first_frames
 from outandover.packedchecker import lets_packed
-from outandover.packeditems import tally_of_packed
+from outandover.packeditems import tallies_of_packed, tally_of_packed
 from outandover.programparts import has_spot
 
 MOST_WRITTEN = 400
@@ -36,7 +36,7 @@ def packed_of(program, run):
 
 def arrivals_in(program, packed, *, at=()):
     """How many arrivals the rest has, at this spot if one is given."""
-    tally = tally_of(program, packed, at)
+    tally = tally_of(program, packed, (at,))
     if at == ():
         return tally[3]
     if not has_spot(program, at):
@@ -46,17 +46,17 @@ def arrivals_in(program, packed, *, at=()):
 
 def frames_behind(program, packed):
     """The spots at which the frames stand behind the rest, () if it is over."""
-    return tally_of(program, packed, ())[0][0]
+    return state_behind(program, packed)[0]
 
 
 def end_behind(program, packed):
     """The end by which the lowest frame has ended, () if the rest is not over."""
-    return tally_of(program, packed, ())[0][2]
+    return state_behind(program, packed)[2]
 
 
 def joined(program, packed, other):
     """A packed rest that stands for the choices of packed, followed by those of other."""
-    state = tally_of(program, packed, ())[0]
+    state = state_behind(program, packed)
     lets_packed(program, other)
     frames, behind, _ = state
     # The frames of a rest are never (), so one that is over does not fit either.
@@ -72,7 +72,18 @@ def items_moved(items, by):
     return tuple([item if is_number(item) else ("life", item[1] + by) for item in items])
 
 
-def tally_of(program, packed, spot):
+def state_behind(program, packed):
+    """The state behind any value, or the errors of lets_packed."""
+    return tally_of(program, packed, ())[0]
+
+
+def tally_of(program, packed, spots):
     """The tally of any value, or the errors of lets_packed."""
     lets_packed(program, packed)
-    return tally_of_packed(book_of(program), packed, spot)
+    return tally_of_packed(book_of(program), packed, spots)
+
+
+def states_behind(program, packed):
+    """The states of any value, at its beginning and behind each of its items, or the errors of lets_packed."""
+    lets_packed(program, packed)
+    return [tally[0] for tally in tallies_of_packed(book_of(program), packed, ())]

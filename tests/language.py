@@ -144,6 +144,8 @@ def set_faults(name, tree):
         if not is_set:
             continue
         above = parents[node]
+        while isinstance(above, ast.BinOp):
+            above = parents[above]
         inside = isinstance(above, ast.Call) and isinstance(above.func, ast.Name) and above.func.id in ('sorted', 'len')
         if not inside and not isinstance(above, ast.Compare):
             yield f'{name}:{node.lineno}: L24'
@@ -219,6 +221,8 @@ def module_faults(name, tree, all_trees):
 
 
 def import_faults(name, node, all_trees):
+    if node.module == 'heapq' and {alias.name for alias in node.names} <= {'heapify', 'heappop', 'heappush'}:
+        return
     word = (node.module or '').removeprefix('outandover.')
     if node.level or not (node.module or '').startswith('outandover.') or word not in all_trees:
         yield f'{name}:{node.lineno}: L2'
@@ -245,7 +249,7 @@ def ring_faults(all_trees):
             other = waiting.pop()
             if other not in found:
                 found.add(other)
-                waiting.extend(direct[other])
+                waiting.extend(direct.get(other, ()))
         if name in found:
             yield f'{name}: L16: imports itself through others'
 

@@ -196,3 +196,90 @@ def apply_rules(line, lines, ends, touched, name):
             lines[name].add(outcome)
         else:
             ends[name].add(outcome)
+
+
+def twin(machine):
+    """A machine that goes on from where this one is; its arrivals begin anew."""
+    other = Machine.__new__(Machine)
+    other.functions = machine.functions
+    other.stack = [list(spot) for spot in machine.stack]
+    other.behind, other.end, other.arrivals = machine.behind, machine.end, []
+    return other
+
+
+def following(start):
+    """From a machine: the frames behind each next arrival, and the ends that come without one."""
+    arrived, ends = set(), set()
+    waiting = [start]
+    while waiting:
+        machine = waiting.pop()
+        for choice in range(machine.options()):
+            other = twin(machine)
+            other.choose(choice)
+            if not other.stack:
+                ends.add(other.end)
+            elif other.arrivals:
+                arrived.add(other.frames())
+            else:
+                waiting.append(other)
+    return arrived, ends
+
+
+class Levels:
+    """All frames that can come behind frames, arrival by arrival; those that do not go on are not gone on from.
+
+    levels[n] has those that come first by n arrivals, ends[n] the ends that come behind n arrivals and no more. The
+    beginning counts again if it is arrived at again. If the most is too few, is_all is False.
+    """
+
+    def __init__(self, program, frames, goes_on=lambda frames: True, most=300):
+        self.levels = [{frames}]
+        self.ends = []
+        start = Machine(program, frames)
+        seen = set()
+        waiting = {frames}
+        while waiting and len(seen) < most:
+            coming, ends = set(), set()
+            for one in waiting:
+                if len(self.levels) == 1 or goes_on(one):
+                    start.stack = [list(spot) for spot in one]
+                    arrived, over = following(start)
+                    coming |= arrived
+                    ends |= over
+            waiting = coming - seen
+            seen |= waiting
+            self.levels.append(waiting)
+            self.ends.append(ends)
+        self.is_all = not waiting
+
+    def least(self, fits, beginning=0):
+        """The fewest arrivals, at least so many, behind which frames fit; None if none of those looked at do."""
+        for many, level in enumerate(self.levels):
+            if many >= beginning and [frames for frames in level if fits(frames)]:
+                return many
+        return None
+
+    def least_end(self, end):
+        """The fewest arrivals behind which the lowest frame has ended so; None if it has not behind those looked at."""
+        for many, ends in enumerate(self.ends):
+            if end in ends:
+                return many
+        return None
+
+
+def lands(command, depth, given):
+    """Whether a command given at one depth lands at a later arrival of another."""
+    return {'step': True, 'next': depth <= given, 'out': depth < given}[command]
+
+
+def stops_by_rules(program, run, stepper):
+    """The numbers of the arrivals at which a stepper stops, taken from the definition."""
+    machine = machine_behind(program, ())
+    stops, command, given = [0], stepper(()), 0
+    for many, choice in enumerate(run):
+        before = len(machine.arrivals)
+        machine.choose(choice)
+        if len(machine.arrivals) > before and lands(command, machine.arrivals[-1][0], given):
+            stops.append(before)
+            command, given = stepper(run[:many + 1]), machine.arrivals[-1][0]
+    return tuple(stops)

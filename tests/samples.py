@@ -96,3 +96,42 @@ def random_run(program, seed, length):
         run.append(chance.randrange(machine.options()))
         machine.choose(run[-1])
     return tuple(run)
+
+
+def cuts_of(program):
+    """Some cuts: none, each spot alone, pairs, all, and spots that the program does not have."""
+    spots = tuple(sorted([(name, index) for name, lines in program for index in range(len(lines))]))
+    found = [(), spots, (('zz', 0),), tuple(sorted(spots[:1] + (('zz', 3), (spots[0][0], 11))))]
+    found.extend([(spot,) for spot in spots])
+    found.extend(list(zip(spots, spots[1:])))
+    return found
+
+
+def chain(names, many):
+    """Functions of so many lines each, each line of which calls the next function, or nothing in the last one."""
+    functions = []
+    for name, following in zip(names, tuple(names[1:]) + ('',)):
+        lines = [((following,), (index + 1,), ()) for index in range(many - 1)]
+        functions.append((name, tuple(lines) + (((following,), (BACK,), ()),)))
+    return tuple(functions)
+
+
+# Faults that leave several frames, up to a handler of their kind, to one of "", or to none; rings of calls; loops.
+DEEP = (
+    ('a', ((('', 'b'), (0, BACK), (('x', 1), ('', 2))), (('b',), (BACK,), ()), (('', 'a'), (1,), ()))),
+    ('b', ((('c', 'd'), (1,), (('y', 1),)), (('d',), (BACK,), ()))),
+    ('c', ((('b', 'd'), (BACK,), ()),)),
+    ('d', ((('',), (('fail', 'x'), ('fail', 'y'), ('fail', 'z')), ()), (('',), (BACK,), ()))),
+)
+
+
+def further(program):
+    """The program with further calls, ways, lines and functions."""
+    last = program[-1][0]
+    found = [program + (('zzz', ((('', 'zzz'), (BACK,), ()),)),)]
+    for k, (name, lines) in enumerate(program):
+        for index, (calls, ways, handlers) in enumerate(lines[:2]):
+            more = tuple([way for way in (0, BACK, ('fail', 'new')) if way not in ways])
+            for line in ((tuple(sorted({*calls, '', last})), ways, handlers), (calls, ways + more, handlers)):
+                found.append(program[:k] + ((name, lines[:index] + (line,) + lines[index + 1:]),) + program[k + 1:])
+    return found + [tuple([(name, lines + ((('',), (0,), ()),)) for name, lines in program])]

@@ -134,8 +134,22 @@ TABLES = """
     ((('again', 0), ('again', 1)), (('back',),))
 """
 
+REACH = """
+    >>> from outandover.reachchecker import lets_reach
+    >>> lets_reach(PROGRAM, ('main', 2), ('run', ((('main', 0),), (('f', (0, 1)),), (0, ('life', 0)))))
+    True
+"""
+
+SAFE = """
+    >>> W = (('g', 0),)
+    >>> from outandover.safechecker import lets_safe
+    >>> lets_safe(PROGRAM, W, ('f', 0), 'out', ('unsafe', ((('f', 0),), (), (0, 0, 1))))
+    False
+"""
+
 BLOCKS = (
-    KINDS, CHECKER, PARTS, CHANGES, TEXTS, PROGRAMS, SPOTS, CHOOSING, LISTING, PACKED, PACKING, WALKS, TABLES,
+    KINDS, CHECKER, PARTS, CHANGES, TEXTS, PROGRAMS, SPOTS, CHOOSING, LISTING, PACKED, PACKING, WALKS, TABLES, REACH,
+    SAFE,
 )
 
 

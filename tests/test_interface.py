@@ -36,6 +36,17 @@ FUNCTIONS = {
         'least_table': 'program, *, cut=()', 'rest_of': 'program, spot, *, cut=()',
         'inside_of': 'program, spot, *, cut=()',
     },
+    'tablechecker': {'lets_table': 'program, thing, *, cut=()'},
+    'reaching': {'nearest': 'program, spot', 'distance': 'program, spot', 'nearest_end': 'program, name, end'},
+    'reachpapers': {'reach_paper': 'program, spot'},
+    'reachchecker': {'lets_reach': 'program, spot, thing'},
+    'safety': {
+        'is_safe': 'program, wished, spot, command', 'furthest': 'program, wished, spot',
+        'quiet_spots': 'program, wished', 'unsafe_rest': 'program, wished, spot, command',
+    },
+    'safepapers': {'safe_paper': 'program, wished, spot, command'},
+    'safechecker': {'lets_safe': 'program, wished, spot, command, thing'},
+    'stepping': {'stops_of': 'program, run, stepper', 'passed_by': 'program, wished, run, stepper'},
 }
 
 CLASSES = {

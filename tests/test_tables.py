@@ -7,21 +7,12 @@ from outandover.tables import inside_of, least_table, rest_of
 from checks import Checks
 from oracle import machine_behind, table_by_rules
 from samples import (
-    AGAIN, BACK, FAULTS, G, PROGRAM, RING, SAMPLES, STUCK, TWICE, anything, random_program, random_run,
+    AGAIN, BACK, FAULTS, G, PROGRAM, RING, SAMPLES, STUCK, TWICE, anything, cuts_of, random_program, random_run,
 )
 
 ROW_F = ('f', (0, 1), (BACK, ('fail', 'bad')), (('f', 0), ('f', 1), ('g', 0)))
 ROW_G = ('g', (0,), (BACK,), (('g', 0),))
 ROW_MAIN = ('main', (0, 1, 2), (BACK,), (('f', 0), ('f', 1), ('g', 0), ('main', 0), ('main', 1), ('main', 2)))
-
-
-def cuts_of(program):
-    """Some cuts: none, each spot alone, pairs, all, and spots that the program does not have."""
-    spots = spots_of(program)
-    found = [(), spots, (('zz', 0),), tuple(sorted(spots[:1] + (('zz', 3), (spots[0][0], 11))))]
-    found.extend([(spot,) for spot in spots])
-    found.extend(list(zip(spots, spots[1:])))
-    return found
 
 
 def programs():
