@@ -11,13 +11,17 @@ from outandover.moves import handler_of, line_in
 
 def steps_of(book, ends, spot):
     """What can come next in a frame behind an arrival: indexes of lines, and ends."""
-    calls, ways, _ = line_in(book, spot)
     found = {}
-    for call in calls:
-        for end in (BACK,) if call == "" else ends[call]:
-            for way in ways if end == BACK else (end,):
-                found[step_by(book, spot, way)] = True
+    for call in line_in(book, spot)[0]:
+        for step in steps_after(book, spot, (BACK,) if call == "" else ends[call]):
+            found[step] = True
     return list(found)
+
+
+def steps_after(book, spot, over):
+    """What can come next in a frame once the call of its line has ended by one of these ends."""
+    ways = line_in(book, spot)[1]
+    return [step_by(book, spot, way) for end in over for way in (ways if end == BACK else (end,))]
 
 
 def step_by(book, spot, way):

@@ -2,23 +2,19 @@
 
 from outandover.errors import InvalidPaper
 from outandover.kinds import is_name, is_number, is_pair, is_spot
-from outandover.moves import book_of, line_in
+from outandover.moves import book_of
 from outandover.packeditems import tally_of_packed
-from outandover.programparts import has_spot
+from outandover.programparts import misfit_in
 
 
 def lets_packed(program, thing):
     """The number of arrivals of a packed rest, or InvalidPaper for its first fault."""
     if not is_packed(thing):
         raise InvalidPaper("shape", -1)
-    book = book_of(program)
-    frames = thing[0]
-    for k, spot in enumerate(frames):
-        if not has_spot(program, spot):
-            raise InvalidPaper("stack", k)
-        if k > 0 and spot[0] not in line_in(book, frames[k - 1])[0]:
-            raise InvalidPaper("stack", k)
-    return tally_of_packed(book, thing, ())[3]
+    misfit = misfit_in(program, thing[0])
+    if misfit is not None:
+        raise InvalidPaper("stack", misfit)
+    return tally_of_packed(book_of(program), thing, ())[3]
 
 
 def is_packed(thing):

@@ -54,3 +54,13 @@ def can_call(program, name):
                     found[call] = True
                     waiting.append(lines_of(program, call))
     return tuple(sorted(found))
+
+
+def misfit_in(program, frames):
+    """The index of the first of any values that cannot stand there among frames, None if all of them can."""
+    for k, spot in enumerate(frames):
+        if not has_spot(program, spot):
+            return k
+        if k > 0 and spot[0] not in line_at(program, frames[k - 1])[0]:
+            return k
+    return None

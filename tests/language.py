@@ -12,7 +12,7 @@ import re
 FOLDER = os.path.join(os.path.dirname(os.path.dirname(os.path.abspath(__file__))), 'outandover')
 
 BUILTINS = set('''len range enumerate zip min max sum abs sorted reversed int str bool list tuple dict set isinstance
-ord repr any all divmod iter property staticmethod classmethod ValueError TypeError KeyError'''.split())
+ord repr any all divmod iter super property staticmethod classmethod ValueError TypeError KeyError'''.split())
 
 METHODS = set('''append clear copy count endswith extend find get index insert isalnum isalpha isdigit islower isspace
 isupper items join keys ljust lower lstrip partition pop remove replace reverse rfind rjust rpartition rsplit rstrip

@@ -283,3 +283,76 @@ def stops_by_rules(program, run, stepper):
             stops.append(before)
             command, given = stepper(run[:many + 1]), machine.arrivals[-1][0]
     return tuple(stops)
+
+
+class Halts:
+    """What comes up to the halt of a command, told from all rests of frames, as far as they were looked at.
+
+    halts and passed have arrivals, pairs of a spot and a depth. A plan can be given besides: then nothing is gone on
+    from where one of its plants is hit, and fault is the fewest arrivals of a fault, and its words.
+    """
+
+    def __init__(self, program, frames, command, breaks, plan=(), most=150):
+        self.order = (command, breaks, len(frames) - 1)
+        self.plan = plan
+        levels = Levels(program, frames, self.goes_on, most)
+        arrivals = {(one[-1], len(one) - 1) for level in levels.levels[1:] for one in level}
+        self.halts = {arrival for arrival in arrivals if self.halts_at(*arrival)}
+        self.passed = arrivals - self.halts
+        self.ends = set().union(*levels.ends)
+        self.is_all = levels.is_all
+        self.many = levels.least(lambda one: self.is_fault(one[-1], len(one) - 1), 1)
+        self.seen = len(levels.levels) - 1
+        self.words = set()
+        if self.many is not None:
+            self.words = {'misses' if self.halts_at(one[-1], len(one) - 1) else 'early' for one in levels.levels[
+                self.many] if self.is_fault(one[-1], len(one) - 1)}
+
+    def halts_at(self, spot, depth):
+        command, breaks, last = self.order
+        return spot in breaks or lands(command, depth, last)
+
+    def is_hit(self, spot, depth):
+        return [look for at, look in self.plan if at == spot and look in (-1, depth)] != []
+
+    def is_fault(self, spot, depth):
+        return self.halts_at(spot, depth) != self.is_hit(spot, depth)
+
+    def goes_on(self, frames):
+        spot, depth = frames[-1], len(frames) - 1
+        return not self.halts_at(spot, depth) and not self.is_hit(spot, depth)
+
+
+class Stops:
+    """The stops of a stepper by the spot of its stop, in all rests of frames with so many arrivals at most.
+
+    numbers[end] is the pair of the fewest and the most of them, for () in all rests, for an end in those over by it.
+    """
+
+    def __init__(self, program, frames, command_at, most, states=3000):
+        self.numbers = {(): (1, 1)}
+        start = Machine(program, frames)
+        levels = {(frames, command_at(frames[-1]), len(frames) - 1): (1, 1)}
+        self.is_all = False
+        for _ in range(most):
+            coming = {}
+            for (one, command, given), many in levels.items():
+                start.stack = [list(spot) for spot in one]
+                arrived, ends = following(start)
+                for end in ends:
+                    self.note(self.numbers, end, many)
+                for other in arrived:
+                    state, added = (other, command, given), 0
+                    if lands(command, len(other) - 1, given):
+                        state, added = (other, command_at(other[-1]), len(other) - 1), 1
+                    self.note(coming, state, (many[0] + added, many[1] + added))
+            for many in coming.values():
+                self.note(self.numbers, (), many)
+            levels = coming
+            if not levels or len(levels) > states:
+                break
+        self.is_all = not levels
+
+    def note(self, table, key, many):
+        low, high = table.get(key, many)
+        table[key] = (min(low, many[0]), max(high, many[1]))

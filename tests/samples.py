@@ -135,3 +135,36 @@ def further(program):
             for line in ((tuple(sorted({*calls, '', last})), ways, handlers), (calls, ways + more, handlers)):
                 found.append(program[:k] + ((name, lines[:index] + (line,) + lines[index + 1:]),) + program[k + 1:])
     return found + [tuple([(name, lines + ((('',), (0,), ()),)) for name, lines in program])]
+
+
+def random_frames(program, chance, most):
+    """Frames of a program, at most so many; the lines need not be such as frames can arrive at."""
+    book = dict(program)
+    name = chance.choice(sorted(book))
+    frames = []
+    while name and len(frames) < most:
+        index = chance.randrange(len(book[name]))
+        frames.append((name, index))
+        name = chance.choice(book[name][index][0])
+    return tuple(frames)
+
+
+def random_tree(seed):
+    """A program whose functions call those behind them, and whose lines lead on to later ones, with few exceptions."""
+    chance = Random(seed)
+    names = 'abcd'[:chance.randint(2, 4)]
+    functions = []
+    for k, name in enumerate(names):
+        many = chance.randint(1, 4)
+        lines = []
+        for index in range(many):
+            callees = [''] + list(names[k + 1:] if chance.random() < 0.95 else names)
+            calls = tuple(sorted(chance.sample(callees, chance.randint(1, min(2, len(callees))))))
+            later = list(range(index + 1, many)) if chance.random() < 0.95 else list(range(many))
+            known = later + [BACK, ('fail', 'x'), ('fail', 'y')]
+            ways = tuple(chance.sample(known, chance.randint(1, min(3, len(known)))))
+            handlers = tuple([(kind, chance.choice(later or [many - 1])) for kind in chance.sample(
+                ['', 'x', 'y'], chance.randint(0, 2)) if later])
+            lines.append((calls, ways, handlers))
+        functions.append((name, tuple(lines)))
+    return tuple(functions)

@@ -147,9 +147,50 @@ SAFE = """
     False
 """
 
+STEPPERS = """
+    >>> from outandover.steppers import CountingFurthest, Fixed
+    >>> from outandover.stepping import passed_by, stops_of
+    >>> counting = CountingFurthest(PROGRAM, W)
+    >>> [stops_of(PROGRAM, RUN, counting), counting.asked, stops_of(PROGRAM, RUN, Fixed('step', 'out')), passed_by(PROGRAM, W, RUN, Fixed('next'))]
+    [(0, 1, 2, 3, 4), 5, (0, 1, 4), (3,)]
+"""
+
+BOUNDS = """
+    >>> from outandover.boundchecker import lets_stops
+    >>> from outandover.boundpapers import stops_paper
+    >>> from outandover.bounds import fewest_stops, most_stops
+    >>> [most_stops(PROGRAM, W), fewest_stops(PROGRAM, W), most_stops((F, G), W), stops_paper((F, G), W)[1][2:4]]
+    [None, 3, 3, ((('f', 0), ('fail', 'bad'), 1), (('f', 1), (), 2))]
+    >>> lets_stops(AGAIN, (), ('ring', ((('again', 0),), (), ()), ((('again', 0),), (), (1,))))
+    raises InvalidPaper(word='quiet', at=-1)
+"""
+
+LANDING = """
+    >>> from outandover.landing import halts_of, may_end, on_the_way
+    >>> IN_F = (('main', 0), ('f', 0))
+    >>> [halts_of(PROGRAM, IN_F, 'next'), halts_of(PROGRAM, IN_F, 'out', breaks=(('g', 0),))]
+    [((('f', 1), 1), (('main', 2), 0)), ((('g', 0), -1), (('main', 1), 0), (('main', 2), 0))]
+    >>> [on_the_way(PROGRAM, IN_F, 'out'), may_end(PROGRAM, IN_F, 'out')]
+    [((1,), (('g', 0),)), False]
+"""
+
+PLANS = """
+    >>> from outandover.plans import is_right, least_plan, plan_fault
+    >>> HERE = (('again', 0),)
+    >>> [least_plan(AGAIN, HERE, 'next'), least_plan(AGAIN, HERE, 'next', breaks=(('again', 1),)), is_right(PROGRAM, IN_F, 'out', ())]
+    [((('again', 1), 0),), ((('again', 1), -1),), False]
+    >>> [plan_fault(AGAIN, HERE, 'next', ())[0], plan_fault(AGAIN, HERE, 'next', ((('again', 1), -1),))[0]]
+    ['misses', 'early']
+    >>> from outandover.planchecker import lets_plan
+    >>> lets_plan(AGAIN, HERE, 'next', ((('again', 1), -1),), ('early', (HERE, (), (1, 0, 0))))
+    False
+    >>> lets_plan(AGAIN, HERE, 'next', ((('again', 1), 0),), ('early', (HERE, (), (1, 0, 0))))
+    raises InvalidPaper(word='last', at=-1)
+"""
+
 BLOCKS = (
     KINDS, CHECKER, PARTS, CHANGES, TEXTS, PROGRAMS, SPOTS, CHOOSING, LISTING, PACKED, PACKING, WALKS, TABLES, REACH,
-    SAFE,
+    SAFE, STEPPERS, BOUNDS, LANDING, PLANS,
 )
 
 

@@ -47,6 +47,20 @@ FUNCTIONS = {
     'safepapers': {'safe_paper': 'program, wished, spot, command'},
     'safechecker': {'lets_safe': 'program, wished, spot, command, thing'},
     'stepping': {'stops_of': 'program, run, stepper', 'passed_by': 'program, wished, run, stepper'},
+    'bounds': {'most_stops': 'program, wished', 'fewest_stops': 'program, wished'},
+    'boundpapers': {'stops_paper': 'program, wished'},
+    'boundchecker': {'lets_stops': 'program, wished, thing'},
+    'landing': {
+        'halts_of': 'program, frames, command, *, breaks=()', 'on_the_way': 'program, frames, command, *, breaks=()',
+        'may_end': 'program, frames, command, *, breaks=()',
+    },
+    'plans': {
+        'least_plan': 'program, frames, command, *, breaks=()',
+        'is_right': 'program, frames, command, plan, *, breaks=()',
+        'plan_fault': 'program, frames, command, plan, *, breaks=()',
+    },
+    'planpapers': {'plan_paper': 'program, frames, command, plan, *, breaks=()'},
+    'planchecker': {'lets_plan': 'program, frames, command, plan, thing, *, breaks=()'},
 }
 
 CLASSES = {
@@ -78,6 +92,13 @@ CLASSES = {
             'copy': 'self', 'set_given': 'self, choice', '__len__': 'self', '__iter__': 'self',
             '__getitem__': 'self, at', '__eq__': 'self, other', '__call__': 'self, choices',
         },
+    },
+    'steppers': {
+        'Stepper': {'told': 'self, run', '__call__': 'self, run'},
+        'Furthest': {'__init__': 'self, program, wished', 'told': 'self, run', '__call__': 'self, run'},
+        'Fixed': {'__init__': 'self, *words', 'told': 'self, run', '__call__': 'self, run'},
+        'Counting': {'__init__': 'self', 'told': 'self, run', '__call__': 'self, run'},
+        'CountingFurthest': {'__init__': 'self, program, wished', 'told': 'self, run', '__call__': 'self, run'},
     },
 }
 
@@ -122,6 +143,9 @@ class InterfaceTest(unittest.TestCase):
     def test_attributes(self):
         walk = module_of('walks').Walk(SHORTEST)
         self.assertIn('program', vars(walk))
+        steppers = module_of('steppers')
+        for stepper in (steppers.Counting(), steppers.CountingFurthest(SHORTEST, ())):
+            self.assertIn('asked', vars(stepper))
 
     def test_properties(self):
         for module, table in PROPERTIES.items():
