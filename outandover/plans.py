@@ -16,8 +16,8 @@ def least_plan(program, frames, command, *, breaks=()):
     passed = [spot for spot, _ in passing(order, arrivals)]
     plants = []
     for spot, depth in halting(order, arrivals):
-        looks = spot not in breaks and spot in passed
-        plants.append((spot, depth if looks else -1))
+        # Breakpoints are never passed, so that they need no look either.
+        plants.append((spot, depth if spot in passed else -1))
     return tuple(sorted(set(plants)))
 
 

@@ -59,7 +59,7 @@ def end_rules(book, spot):
 def open_rules(book, spot, command):
     """The rules of the stops from one spot to anywhere."""
     head = ("stops", spot, ())
-    rules = [(head, 1, ())] + [(head, 1, (("by", spot, end),)) for end in ends_named(book)]
+    rules = [(head, 1, ())]
     for index, target in own_spots(book, spot):
         rules.append((head, 1, (("by", spot, index), ("stops", target, ()))))
     for call in line_in(book, spot)[0] if command == "step" else ():

@@ -145,6 +145,20 @@ class PaperTest(Checks):
         self.assertEqual(len(paper[1]), 2 * 96)
 
 
+    def test_a_ring_at_a_quiet_spot_is_not_enough(self):
+        program = (('b', ((('a',), (0, BACK), ()),)), ('a', ((('',), (0, BACK), ()),)))
+        paper = stops_paper(program, (('b', 0),))
+        self.assertEqual(paper[2][0], (('b', 0),))
+        self.gives(None, lets_stops, program, (('b', 0),), paper)
+        self.raises(InvalidPaper, ('quiet', -1), lets_stops, program, (('b', 0),),
+                    ('ring', ((('b', 0),), (), (0,)), ((('a', 0),), (), (0, 0))))
+
+    def test_a_ring_that_no_run_comes_to_is_not_taken(self):
+        program = (('b', ((('',), (0, BACK), ()),)), ('a', ((('',), (0, BACK), ()),)))
+        wished = (('a', 0), ('b', 0))
+        self.gives(('ring', ((('b', 0),), (), ()), ((('b', 0),), (), (0, 0))), stops_paper, program, wished)
+
+
 class ShapeTest(Checks):
 
     def test_any_value(self):

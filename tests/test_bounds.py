@@ -88,6 +88,14 @@ class NoneTest(Checks):
         self.gives(1, most_stops, down, ())
         self.gives(None, most_stops, down, (('f', 0),))
 
+    def test_calls_that_are_never_left(self):
+        # Behind g 1 nothing ends, so that all stops come in calls that are still open.
+        program = (('f', ((('g',), (BACK,), ()),)), ('g', ((('',), (1,), ()), (('h',), (BACK,), ()))),
+                   ('h', ((('',), (0,), ()),)))
+        self.gives(3, most_stops, program, (('g', 1),))
+        self.gives(None, fewest_stops, program, (('g', 1),))
+        self.gives(2, most_stops, program, (('g', 0),))
+
     def test_a_loop_at_quiet_spots(self):
         # The stepper goes out of g, whose loop thus has no stops of its own.
         program = (('f', ((('g',), (1,), ()), (('',), (BACK,), ()))), ('g', ((('',), (1, 0), ()), (('',), (BACK,), ()))))

@@ -221,7 +221,7 @@ class JoinedTest(Checks):
         tried = 0
         for program, run, _ in cases():
             chance = Random(len(run))
-            for many in range(len(run) + 1):
+            for many in range(chance.randrange(3), len(run) + 1, 3):
                 if is_behind(program, run[:many]) or frames_after(program, run[:many]) == ():
                     continue
                 frames = frames_after(program, run[:many])
@@ -233,7 +233,7 @@ class JoinedTest(Checks):
                 self.gives(arrivals_in(program, one) + arrivals_in(program, two), arrivals_in, program, found)
                 self.gives(frames_after(program, run), frames_behind, program, found)
                 tried += 1
-        self.assertGreater(tried, 1000)
+        self.assertGreater(tried, 500)
 
     def test_no_items(self):
         frames = (('main', 0), ('f', 1))

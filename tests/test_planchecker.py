@@ -280,6 +280,24 @@ class FaultTest(Checks):
                     ('misses', packed))
         self.gives(False, lets_plan, TWICE, frames, 'next', ((('twice', 0), 0),), ('misses', packed))
 
+    def test_hits_inside_lives_beside_own_arrivals(self):
+        # The command is given at a breakpoint, to which the call comes back; another one is hit inside the call.
+        program = (('f', ((('g',), (1,), (('', 1),)), (('',), (BACK,), ()))),
+                   ('g', ((('',), (1,), ()), (('',), (BACK, ('fail', 'x')), ()))))
+        frames, breaks = (('f', 0),), (('f', 0), ('g', 1))
+        packed = (frames, (('g', (0, 0, 0, 0)),), (0, LIFE, 0))
+        self.raises(InvalidPaper, ('before', -1), lets_plan, program, frames, 'next', (), ('misses', packed),
+                    breaks=breaks)
+        self.gives(False, lets_plan, program, frames, 'next', (), ('misses', packed), breaks=(('f', 0),))
+        # The last item is the life itself, which is left by a fault.
+        packed = (frames, (('g', (0, 0, 0, 1)),), (0, LIFE))
+        self.raises(InvalidPaper, ('before', -1), lets_plan, program, frames, 'next', (), ('misses', packed),
+                    breaks=breaks)
+        self.gives(False, lets_plan, program, frames, 'next', (), ('misses', packed), breaks=(('f', 0),))
+        self.gives(False, lets_plan, program, frames, 'next', (), ('misses', packed), breaks=(('f', 0), ('f', 1)))
+        self.raises(InvalidPaper, ('last', -1), lets_plan, program, frames, 'next', ((('f', 1), -1),),
+                    ('misses', packed))
+
     def test_a_fault_that_a_life_leaves(self):
         program = (('f', ((('g',), (0,), (('', 1),)), (('',), (BACK,), ()))),
                    ('g', ((('',), (0, ('fail', 'x')), ()),)))

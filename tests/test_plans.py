@@ -11,7 +11,8 @@ from outandover.programparts import spots_of
 from checks import Checks
 from oracle import Halts, machine_behind, written
 from samples import (
-    AGAIN, DEEP, FAULTS, PROGRAM, SAMPLES, STUCK, TWICE, anything, chain, cuts_of, random_frames, random_program,
+    AGAIN, BACK, DEEP, FAULTS, PROGRAM, SAMPLES, STUCK, TWICE, anything, chain, cuts_of, random_frames, random_program,
+    random_tree,
 )
 
 COMMANDS = ('step', 'next', 'out')
@@ -23,11 +24,12 @@ def programs():
     return SAMPLES + (DEEP,) + tuple([random_program(seed) for seed in range(40)])
 
 
-def cases(many=300):
+def cases(many=600):
     """A program, frames, a command and breakpoints, by chance."""
+    known = programs()
     for seed in range(many):
         chance = Random(seed)
-        program = programs()[seed % len(programs())]
+        program = known[seed % len(known)]
         yield chance, program, random_frames(program, chance, 4), chance.choice(COMMANDS), chance.choice(
             cuts_of(program) + [()])
 
@@ -205,6 +207,38 @@ class FaultTest(Checks):
         for spot, depth in arrivals[:-1]:
             self.assertFalse(told.halts_at(spot, depth) or told.is_hit(spot, depth))
         self.assertEqual((told.halts_at(*arrivals[-1]), told.is_hit(*arrivals[-1])), (word == 'misses', word == 'early'))
+
+
+    def test_the_fewest_arrivals_of_several_faults(self):
+        program = (('m', ((('f',), (1,), (('x', 1),)), (('',), (BACK,), ()))),
+                   ('f', ((('', 'g'), (1, 3), ()), (('',), (2,), ()), (('',), (BACK,), ()), (('',), (('fail', 'x'),), ()))),
+                   ('g', ((('',), (1,), ()), (('',), (BACK,), ()))))
+        frames = (('m', 0), ('f', 0))
+        for plan, many, word in (
+                ((), 2, 'misses'), (((('f', 2), -1), (('g', 0), -1)), 1, 'early'), (((('f', 2), -1),), 2, None),
+                (((('f', 2), -1), (('g', 1), -1), (('m', 1), -1)), 2, 'early'), (((('f', 3), -1), (('f', 2), 1)), 1, 'early'),
+                (((('f', 3), 1), (('g', 1), -1), (('m', 1), -1)), 1, 'early'), (((('g', 1), -1),), 2, None)):
+            found = plan_fault(program, frames, 'out', plan)
+            self.assertEqual(lets_packed(program, found[1]), many)
+            self.assertTrue(word in (None, found[0]))
+
+    def test_any_plans(self):
+        met = 0
+        for seed in range(1500):
+            chance = Random(seed)
+            program = (random_tree if seed % 3 else random_program)(seed)
+            frames = random_frames(program, chance, 4)
+            plants = [(spot, look) for spot in spots_of(program) for look in range(-1, len(frames))]
+            plan = tuple(sorted(chance.sample(plants, chance.randint(0, min(6, len(plants))))))
+            breaks = tuple(sorted(chance.sample(spots_of(program), chance.choice([0, 0, 1]))))
+            told = Halts(program, frames, chance.choice(COMMANDS), breaks, plan, most=60)
+            found = plan_fault(program, frames, told.order[0], plan, breaks=breaks)
+            if told.many is not None:
+                self.assertEqual(lets_packed(program, found[1]), told.many)
+                self.assertIn(found[0], told.words)
+                met += told.many > 1
+                self.assert_fault(program, frames, told, *found)
+        self.assertGreater(met, 40)
 
 
 class WrongTest(Checks):
