@@ -67,6 +67,14 @@ class LeastTest(Checks):
         self.gives(((('f', 1), 2),), least_plan, program, frames, 'next')
         self.gives(((('f', 1), 1),), least_plan, program, frames, 'out')
 
+    def test_six_frames(self):
+        frames = (('again', 0),) * 6
+        self.gives(((('again', 1), 5),), least_plan, AGAIN, frames, 'next')
+        self.gives(((('again', 1), 4),), least_plan, AGAIN, frames, 'out')
+        self.gives(((('again', 0), -1), (('again', 1), -1)), least_plan, AGAIN, frames, 'step')
+        self.gives(None, plan_fault, AGAIN, frames, 'out', ((('again', 1), 4), (('zz', 0), 2)))
+        self.gives(('early', (frames, (), (0, 0))), plan_fault, AGAIN, frames, 'out', ((('again', 1), 4), (('again', 1), 5)))
+
     def test_two_looks_at_one_spot(self):
         program = (('f', ((('f', 'g'), (1, ('back',)), (('', 1),)), (('',), (('back',),), ()))),
                    ('g', ((('',), (('back',), ('fail', 'x')), ()),)))

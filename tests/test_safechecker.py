@@ -149,6 +149,7 @@ class UnsafeTest(Checks):
 
     def test_the_errors_of_lets_packed(self):
         things = anything() + [(FROM_F, (('g', (0,)),), ()), (FROM_F, (('h', ()),), ()), (FROM_F, (), (7,)),
+                               (FROM_F, (), (0, 1, 0)), (FROM_F, (('g', (0, 0, 0)),), ()),
                                ((('f', 2),), (), ()), (FROM_F, (), [0])]
         for thing in things:
             fields = fault_of(lets_packed, PROGRAM, thing)
