@@ -1,6 +1,6 @@
 """What single words write; None for a word that is not possible."""
 
-from outandover.kinds import BACK, is_name
+from outandover.kinds import BACK, is_command, is_name
 
 DIGITS = "0123456789"
 MOST_DIGITS = 60
@@ -70,3 +70,34 @@ def handlers_in(word):
     if word == "-":
         return ()
     return all_or_none([handler_in(part) for part in word.split(",")])
+
+
+def choices_in(word):
+    """The choices that a word writes, - for none."""
+    if word == "-":
+        return ()
+    return all_or_none([number_in(part) for part in word.split(",")])
+
+
+def command_in(word):
+    """The command that a word writes."""
+    return word if is_command(word) else None
+
+
+def where_in(word):
+    """The name or the spot that a word writes, or "" for *."""
+    if word == "*":
+        return ""
+    return word if is_name(word) else spot_in(word)
+
+
+def breaks_in_word(word):
+    """The spots that a word writes, with commas between them, - for none."""
+    if word == "-":
+        return ()
+    return all_or_none([spot_in(part) for part in word.split(",")])
+
+
+def on_in(word):
+    """Whether a word writes on, or off."""
+    return word == "on" if word in ("on", "off") else None

@@ -38,7 +38,7 @@ BARRED_STARTS = ('_wall', '_pe_', '_dcw_', '_enum_', '_cm_', '_twin_re_', '_lay_
 
 # Statements and expressions that the package does without, some of them although a rule would allow them.
 BARRED_NODES = (
-    ast.Global, ast.AsyncFunctionDef, ast.AsyncFor, ast.AsyncWith, ast.Await, ast.Lambda, ast.Div, ast.Try, ast.Match,
+    ast.Global, ast.AsyncFunctionDef, ast.AsyncFor, ast.AsyncWith, ast.Await, ast.Lambda, ast.Div, ast.Match,
     ast.NamedExpr, ast.GeneratorExp, ast.AnnAssign, ast.Import, ast.YieldFrom, ast.Delete, ast.Nonlocal,
 )
 
@@ -115,9 +115,24 @@ def node_faults(name, tree):
                 yield f'{at}: L21'
         if isinstance(node, ast.AugAssign):
             yield f'{at}: L5: the package does without +='
+        if isinstance(node, ast.Try):
+            yield from try_faults(at, node)
     for node in ast.walk(tree):
         if isinstance(node, ast.Name) and node.id == 'frozenset':
             yield f'{name}:{node.lineno}: L24'
+
+
+def try_faults(at, node):
+    """L6, L19: own errors alone are caught, and nothing is done finally."""
+    own = {part.name for part in classes_in(ast.parse(text_of('errors')))}
+    if node.finalbody:
+        yield f'{at}: the package does without finally'
+    for handler in node.handlers:
+        if not isinstance(handler.type, ast.Name) or handler.type.id not in own:
+            yield f'{at}: L19'
+    for part in ast.walk(node):
+        if isinstance(part, ast.Raise) and part.exc is not None and not isinstance(part.exc, ast.Call):
+            yield f'{at}: L19: raise'
 
 
 def constant_faults(at, node, is_doc):
@@ -302,6 +317,8 @@ def members_of(all_trees):
     for tree in all_trees.values():
         for node in classes_in(tree):
             for part in node.body:
+                if isinstance(part, ast.Assign):
+                    attributes.add(part.targets[0].id)
                 if isinstance(part, ast.FunctionDef):
                     if is_setter(part):
                         properties[part.name] = True
@@ -381,10 +398,13 @@ def is_fresh(node):
 
 
 def change_faults(name, node):
-    created = {}
+    created, made = {}, {}
+    classes = {own.name for own in classes_in(ast.parse(text_of(name)))}
     for part in ast.walk(node):
         if isinstance(part, ast.Assign) and isinstance(part.targets[0], ast.Name):
             created.setdefault(part.targets[0].id, []).append(is_fresh(part.value))
+            is_object = isinstance(part.value, ast.Call) and getattr(part.value.func, 'id', '') in classes
+            made.setdefault(part.targets[0].id, []).append(is_object)
     for part in ast.walk(node):
         target = None
         if isinstance(part, ast.Call) and isinstance(part.func, ast.Attribute) and part.func.attr in MUTATING:
@@ -392,7 +412,8 @@ def change_faults(name, node):
         if isinstance(part, ast.Subscript) and isinstance(part.ctx, ast.Store):
             target = part.value
         if isinstance(part, ast.Attribute) and isinstance(part.ctx, ast.Store):
-            yield f'{name}:{part.lineno}: L5: {node.name} changes {part.attr}'
+            if not (isinstance(part.value, ast.Name) and made.get(part.value.id) == [True]):
+                yield f'{name}:{part.lineno}: L5: {node.name} changes {part.attr}'
         if target is not None and not (isinstance(target, ast.Name) and all(created.get(target.id, [False]))):
             yield f'{name}:{part.lineno}: L5: {node.name} changes what it did not create'
         if isinstance(part, ast.Call) and isinstance(part.func, ast.Name) and part.func.id in parameters_of(node):

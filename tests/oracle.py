@@ -3,6 +3,8 @@
 It shares no code with the package, and takes the document's words one by one.
 """
 
+import functools
+
 
 class Machine:
     """One run (or rest) that is led by choices; it changes with each of them."""
@@ -356,3 +358,162 @@ class Stops:
     def note(self, table, key, many):
         low, high = table.get(key, many)
         table[key] = (min(low, many[0]), max(high, many[1]))
+
+
+def rule_by_rules(guide, state, spot):
+    """The first rule of a state that applies to a stop at the spot."""
+    for rule in guide[state]:
+        if rule[0] == '' or rule[0] == spot[0] or rule[0] == spot:
+            return rule
+    raise AssertionError('the last rule of a state applies to all')
+
+
+class Follower:
+    """A guide that is told of the arrivals of one run, and says at which of them it stops."""
+
+    def __init__(self, guide, arrival):
+        self.guide = guide
+        self.state = 0
+        self.stop_at(*arrival)
+
+    def stop_at(self, depth, spot):
+        _, self.command, self.breaks, self.state = rule_by_rules(self.guide, self.state, spot)
+        self.given = depth
+
+    def memory(self):
+        return (self.command, self.breaks, self.state, self.given)
+
+    def recall(self, memory):
+        self.command, self.breaks, self.state, self.given = memory
+
+    def stops_at(self, depth, spot):
+        if spot not in self.breaks and (self.command == 'go' or not lands(self.command, depth, self.given)):
+            return False
+        self.stop_at(depth, spot)
+        return True
+
+
+def guide_stops_by_rules(program, guide, run):
+    """The numbers of the arrivals at which a guide stops, choice by choice."""
+    machine = machine_behind(program, run)
+    follower = Follower(guide, machine.arrivals[0])
+    return (0,) + tuple([k for k, arrival in enumerate(machine.arrivals) if k > 0 and follower.stops_at(*arrival)])
+
+
+@functools.lru_cache(maxsize=None)
+def arrived_behind(program, frames):
+    """The frames behind each next arrival of these frames."""
+    return tuple(sorted(following(Machine(program, frames))[0]))
+
+
+class Meeting:
+    """All that can come under two guides, arrival by arrival.
+
+    many is the fewest arrivals of a run to one at which the first guide stops and the other does not, None if there is
+    none among those looked at; if these are all, is_all is True.
+    """
+
+    def __init__(self, program, guide, other, most=250):
+        first = (0, (program[0][0], 0))
+        one, two = Follower(guide, first), Follower(other, first)
+        waiting = {((first[1],), one.memory(), two.memory())}
+        seen = set(waiting)
+        self.many, self.arrivals = None, 0
+        while waiting and self.many is None and len(seen) < most:
+            self.arrivals += 1
+            coming = set()
+            for frames, memory, other_memory in waiting:
+                for arrived in arrived_behind(program, frames):
+                    one.recall(memory)
+                    two.recall(other_memory)
+                    arrival = (len(arrived) - 1, arrived[-1])
+                    if one.stops_at(*arrival) > two.stops_at(*arrival):
+                        self.many = self.arrivals
+                    coming.add((arrived, one.memory(), two.memory()))
+            waiting = coming - seen
+            seen |= waiting
+        self.is_all = not waiting
+
+
+def rows_by_rules(program, guide, other):
+    """The rows of a within paper: all that comes from the first frame of a run on, tried until nothing is new.
+
+    None if guide stops somewhere where other does not.
+    """
+    closure = Closure(program, (guide, other))
+    while closure.rounds():
+        pass
+    rows = closure.rows
+    found = [(key[0], key[1], tuple(sorted(rows[key][0])), tuple(sorted(rows[key][1]))) for key in sorted(rows)]
+    return None if closure.fails else tuple(found)
+
+
+class Closure:
+    """Rows that grow, for a pair of a function and of the situations behind its first arrival."""
+
+    def __init__(self, program, guides):
+        self.functions = dict(program)
+        self.guides = guides
+        self.fails = False
+        first = program[0][0]
+        pair = tuple([self.given(guide, 0, (first, 0)) for guide in guides])
+        self.rows = {(first, pair): ({(0, pair)}, set())}
+
+    def given(self, guide, state, spot):
+        rule = rule_by_rules(guide, state, spot)
+        word = {'step': 'lands', 'next': 'here', 'out': 'below', 'go': 'never'}[rule[1]]
+        return (word, rule[3]) if word == 'lands' else (word, state, guide[state].index(rule))
+
+    def arrived(self, pair, spot, is_call):
+        stops, found = [], []
+        for guide, situation in zip(self.guides, pair):
+            word = situation[0]
+            rule = None if word == 'lands' else guide[situation[1]][situation[2]]
+            stop = word == 'lands' or word == 'here' and not is_call or spot in rule[2]
+            stops.append(stop)
+            if stop:
+                found.append(self.given(guide, situation[1] if word == 'lands' else rule[3], spot))
+            elif is_call and word != 'never':
+                found.append(('kept', situation[1], situation[2]))
+            else:
+                found.append(situation)
+        if stops[0] and not stops[1]:
+            self.fails = True
+        return tuple(found)
+
+    def ended(self, pair):
+        found = []
+        for guide, situation in zip(self.guides, pair):
+            if situation[0] in ('here', 'below'):
+                situation = ('lands', guide[situation[1]][situation[2]][3])
+            found.append(situation)
+        return tuple(found)
+
+    def rounds(self):
+        """One round; whether something was new."""
+        before = [len(part) for row in self.rows.values() for part in row]
+        for name, pair in list(self.rows):
+            for index, own in list(self.rows[(name, pair)][0]):
+                self.go_on(name, self.rows[(name, pair)], index, own)
+        return before != [len(part) for row in self.rows.values() for part in row] and not self.fails
+
+    def go_on(self, name, row, index, own):
+        calls, ways, handlers = self.functions[name][index]
+        outcomes = []
+        for call in calls:
+            if call == '':
+                outcomes.append((('back',), own))
+                continue
+            inner = self.arrived(own, (call, 0), True)
+            called = self.rows.setdefault((call, inner), ({(0, inner)}, set()))
+            for end, over in called[1]:
+                outcomes.append((end, tuple([a if b[0] == 'kept' else b for a, b in zip(own, over)])))
+        for end, pair in outcomes:
+            for way in ways if end == ('back',) else (end,):
+                if isinstance(way, tuple) and way[0] == 'fail':
+                    fitting = [at for kind, at in handlers if kind in ('', way[1])]
+                    way = fitting[0] if fitting else way
+                if isinstance(way, tuple):
+                    row[1].add((way, self.ended(pair)))
+                else:
+                    row[0].add((way, self.arrived(pair, (name, way), False)))

@@ -12,6 +12,12 @@ RUN = (0, 0, 0, 1, 0, 0, 0, 0, 0, 0)
 AGAIN = (('again', ((('', 'again'), (1,), ()), (('',), (('back',),), ()))),)
 TWICE = (('twice', ((('', 'twice'), (1,), ()), (('', 'twice'), (('back',),), ()))),)
 BACK = ('back',)
+WATCH = ((('f', 'step', (), 0), ('', 'next', (('g', 0),), 0)),)
+GO = ((('', 'go', (('g', 0),), 0),),)
+STEP = ((('', 'step', (), 0),),)
+LIVES = (('g', (0, 0)), ('f', (0, 0, 1, ('life', 0), 0)))
+PACKED = ((('main', 0),), LIVES, (0, ('life', 1), 0))
+LONG = ((('twice', 0),), (('twice', (0, 0, 0, 0)), ('twice', (1, ('life', 0), 0, 1, ('life', 0), 0))), (1, ('life', 1)))
 
 # Three functions that call one another in a ring, and one that nothing calls.
 RING = (
@@ -168,3 +174,44 @@ def random_tree(seed):
             lines.append((calls, ways, handlers))
         functions.append((name, tuple(lines)))
     return tuple(functions)
+
+
+def random_guide(chance, program, states=3, rules=3, breaks=2):
+    """A guide for a program; its names and spots may be such as the program does not have."""
+    many = chance.randint(1, states)
+    names = sorted([name for name, _ in program]) + ['zz']
+
+    def spot():
+        name = chance.choice(names)
+        return (name, chance.randrange(len(dict(program).get(name, 'x')) + 1))
+
+    def rule(where):
+        spots = {spot() for _ in range(chance.randint(0, breaks))}
+        command = chance.choice(['step', 'next', 'out', 'go', 'next', 'out'])
+        return (where, command, tuple(sorted(spots)), chance.randrange(many))
+
+    found = []
+    for _ in range(many):
+        wheres = [chance.choice(['', chance.choice(names), spot(), spot()]) for _ in range(chance.randrange(rules))]
+        found.append(tuple([rule(where) for where in wheres + ['']]))
+    return tuple(found)
+
+
+def bolder(chance, program, guide):
+    """The guide with some of its commands made to go further, or some of its breakpoints left out."""
+    further_ones = {'step': 'next', 'next': 'out', 'out': 'go', 'go': 'go'}
+    states = []
+    for state in guide:
+        rules = []
+        for where, command, breaks, following in state:
+            if chance.random() < 0.3:
+                command = further_ones[command]
+            breaks = tuple([spot for spot in breaks if chance.random() < 0.8])
+            rules.append((where, command, breaks, following))
+        states.append(tuple(rules))
+    return tuple(states)
+
+
+def guided_programs():
+    """Programs for guides: those above, and others by chance."""
+    return SAMPLES + (DEEP,) + tuple([random_program(seed) for seed in range(60)])

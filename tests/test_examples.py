@@ -188,9 +188,38 @@ PLANS = """
     raises InvalidPaper(word='last', at=-1)
 """
 
+GUIDES = r"""
+    >>> from outandover.guides import Guide
+    >>> WATCH = ((('f', 'step', (), 0), ('', 'next', (('g', 0),), 0)),)
+    >>> watch = Guide(WATCH)
+    >>> [str(watch), watch(0, ('main', 7)), watch.without(0, 1, ('g', 0)).breaks, Guide.read('state\n* go g:0,h:1 0')[0]]
+    ['state\nf step - 0\n* next g:0 0', ('next', (('g', 0),), 0), (), (('', 'go', (('g', 0), ('h', 1)), 0),)]
+    >>> Guide.read('state\nf step - 0\nstate')
+    raises InvalidText(line=3, field=0)
+    >>> from outandover.following import guide_stops, stops_in
+    >>> GO = ((('', 'go', (('g', 0),), 0),),)
+    >>> [guide_stops(PROGRAM, WATCH, RUN), guide_stops(PROGRAM, GO, RUN), stops_in(PROGRAM, WATCH, PACKED)]
+    [(0, 3, 4), (0, 3), 3]
+"""
+
+COMPARED = """
+    >>> from outandover.comparechecker import lets_within
+    >>> from outandover.comparepapers import within_paper
+    >>> from outandover.comparing import are_alike, is_within
+    >>> [is_within(PROGRAM, GO, WATCH), are_alike(PROGRAM, GO, WATCH)]
+    [True, False]
+    >>> STEP = ((('', 'step', (), 0),),)
+    >>> within_paper((G,), STEP, STEP)[1]
+    (('g', (('lands', 0), ('lands', 0)), ((0, (('lands', 0), ('lands', 0))),), ((('back',), (('lands', 0), ('lands', 0))),)),)
+    >>> lets_within(PROGRAM, WATCH, GO, ('breach', ((('main', 0),), (), (0, 0, 1))))
+    False
+    >>> lets_within((G,), STEP, STEP, ('closed', ()))
+    raises InvalidPaper(word='first', at=-1)
+"""
+
 BLOCKS = (
     KINDS, CHECKER, PARTS, CHANGES, TEXTS, PROGRAMS, SPOTS, CHOOSING, LISTING, PACKED, PACKING, WALKS, TABLES, REACH,
-    SAFE, STEPPERS, BOUNDS, LANDING, PLANS,
+    SAFE, STEPPERS, BOUNDS, LANDING, PLANS, GUIDES, COMPARED,
 )
 
 

@@ -61,6 +61,18 @@ FUNCTIONS = {
     },
     'planpapers': {'plan_paper': 'program, frames, command, plan, *, breaks=()'},
     'planchecker': {'lets_plan': 'program, frames, command, plan, thing, *, breaks=()'},
+    'guidechecker': {'lets_guide': 'thing'},
+    'following': {'guide_stops': 'program, guide, run', 'stops_in': 'program, guide, packed'},
+    'comparing': {
+        'is_within': 'program, guide, other', 'breach': 'program, guide, other', 'are_alike': 'program, guide, other',
+    },
+    'comparepapers': {'within_paper': 'program, guide, other'},
+    'comparechecker': {'lets_within': 'program, guide, other, thing'},
+    'everywhere': {
+        'free_programs': 'guide, other', 'is_within_everywhere': 'guide, other', 'are_alike_everywhere': 'guide, other',
+        'breach_everywhere': 'guide, other',
+    },
+    'paring': {'needless': 'program, guide', 'pared': 'program, guide'},
 }
 
 CLASSES = {
@@ -100,12 +112,19 @@ CLASSES = {
         'Counting': {'__init__': 'self', 'told': 'self, run', '__call__': 'self, run'},
         'CountingFurthest': {'__init__': 'self, program, wished', 'told': 'self, run', '__call__': 'self, run'},
     },
+    'guides': {
+        'Guide': {
+            '__init__': 'self, states', '__call__': 'self, state, spot', '__getitem__': 'self, at', '__len__': 'self',
+            '__eq__': 'self, other', 'without': 'self, state, rule, spot', '__str__': 'self', 'read': 'cls, text',
+        },
+    },
 }
 
 PROPERTIES = {
     'programs': {'Program': 'functions first spots'},
     'spotsets': {'Spots': 'members'},
     'walks': {'Walk': 'choices frames here is_over options given'},
+    'guides': {'Guide': 'states breaks'},
 }
 
 
@@ -136,7 +155,8 @@ class InterfaceTest(unittest.TestCase):
 
     def test_kinds_of_methods(self):
         for name, word, kind in (('programs', 'read', classmethod), ('programs', 'one_function', staticmethod),
-                                 ('spotsets', 'read', classmethod), ('spotsets', 'of_program', classmethod)):
+                                 ('spotsets', 'read', classmethod), ('spotsets', 'of_program', classmethod),
+                                 ('guides', 'read', classmethod)):
             found = [own for own in vars(module_of(name)).values() if inspect.isclass(own) and word in vars(own)]
             self.assertEqual([vars(own)[word].__class__ for own in found], [kind])
 
