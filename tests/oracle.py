@@ -517,3 +517,76 @@ class Closure:
                     row[1].add((way, self.ended(pair)))
                 else:
                     row[0].add((way, self.arrived(pair, (name, way), False)))
+
+
+class Told:
+    """What a session tells behind these events, choice by choice, by the commands themselves and not by plants."""
+
+    def __init__(self, program, wished, events):
+        self.machine = Machine(program)
+        self.wished, self.on, self.fed, self.read = wished, {}, [], 0
+        self.command, self.passed, self.arrived, self.halted = None, [], 0, 0
+        for event in events:
+            self.apply(*event)
+
+    def apply(self, word, told, on=None):
+        if word == 'feed':
+            self.fed.extend(told)
+        elif word == 'tell':
+            spots = {spot for spot in self.on if self.on[spot]}
+            self.command = (told, len(self.machine.stack) - 1, spots)
+        elif word == 'break':
+            self.on[told] = on
+        elif word == 'clear':
+            self.on.pop(told, None)
+        else:
+            self.wished = told
+        while self.command and self.read < len(self.fed):
+            self.read_one()
+
+    def read_one(self):
+        many = len(self.machine.arrivals)
+        self.machine.choose(self.fed[self.read])
+        self.read += 1
+        if not self.machine.stack:
+            self.command = None
+        elif len(self.machine.arrivals) > many:
+            self.arrived += 1
+            depth, spot = self.machine.arrivals[-1]
+            command, given, spots = self.command
+            if spot in spots or command != 'go' and lands(command, depth, given):
+                self.halted += 1
+                self.command = None
+            elif spot in self.wished:
+                self.passed.append(self.arrived)
+
+    def state(self):
+        if self.command:
+            return 'running'
+        return 'stopped' if self.machine.stack else 'over'
+
+    def frames(self):
+        return self.machine.frames() if self.state() == 'stopped' else ()
+
+    def here(self):
+        return self.frames()[-1] if self.frames() else None
+
+    def can_feed(self, choices):
+        machine = machine_behind(tuple(self.machine.functions.items()), self.fed)
+        for choice in choices:
+            if choice >= machine.options():
+                return False
+            machine.choose(choice)
+        return True
+
+    def options(self):
+        return machine_behind(tuple(self.machine.functions.items()), self.fed).options()
+
+    def reason(self, event):
+        """Why an event that is one by form is not possible, '' if it is possible."""
+        word = event[0]
+        if word == 'feed':
+            return 'over' if self.state() == 'over' else '' if self.can_feed(event[1]) else 'choice'
+        if self.state() == 'running':
+            return 'running'
+        return 'over' if word == 'tell' and self.state() == 'over' else ''

@@ -217,9 +217,19 @@ COMPARED = """
     raises InvalidPaper(word='first', at=-1)
 """
 
+SESSIONS = """
+    >>> from outandover.sessions import Session
+    >>> session = Session(PROGRAM, wished=W)
+    >>> [session.feed(RUN[:4]), session.advice(), session.tell('next'), session.passed, session.planted()]
+    ['stopped', 'step', 'running', (3,), ((('main', 1), -1), (('main', 2), -1))]
+    >>> [session.feed(RUN[4:]), session.here, session.counts(), session('out'), session.frames]
+    ['stopped', ('main', 1), (4, 1), 'over', ()]
+"""
+
 BLOCKS = (
     KINDS, CHECKER, PARTS, CHANGES, TEXTS, PROGRAMS, SPOTS, CHOOSING, LISTING, PACKED, PACKING, WALKS, TABLES, REACH,
     SAFE, STEPPERS, BOUNDS, LANDING, PLANS, GUIDES, COMPARED,
+    SESSIONS,
 )
 
 

@@ -73,6 +73,11 @@ FUNCTIONS = {
         'breach_everywhere': 'guide, other',
     },
     'paring': {'needless': 'program, guide', 'pared': 'program, guide'},
+    'eventkinds': {'is_event': 'thing', 'is_log': 'thing'},
+    'through': {'told_through': 'session, commands'},
+    'replaying': {'replayed': 'log'},
+    'eventtexts': {'event_line': 'event', 'log_lines': 'log'},
+    'eventreadings': {'read_event': 'text', 'read_log': 'lines'},
 }
 
 CLASSES = {
@@ -118,6 +123,23 @@ CLASSES = {
             '__eq__': 'self, other', 'without': 'self, state, rule, spot', '__str__': 'self', 'read': 'cls, text',
         },
     },
+    'breakpoints': {
+        'Breaks': {
+            '__init__': 'self, *spots', '__getitem__': 'self, at', '__setitem__': 'self, at, worth',
+            '__contains__': 'self, x', '__len__': 'self', '__iter__': 'self', '__or__': 'self, other',
+            '__sub__': 'self, other', '__ior__': 'self, other', '__isub__': 'self, other',
+        },
+    },
+    'sessions': {
+        'Session': {
+            '__init__': 'self, program, *, wished=()', 'feed': 'self, choices', 'tell': 'self, command',
+            'set_break': 'self, spot, on', 'clear_break': 'self, spot', 'set_wished': 'self, spots', 'go': 'self, event',
+            '__call__': 'self, command', 'tried': 'self, *events', 'undo': 'self',
+            'do_all': 'self, *events, keep=False', 'planted': 'self', 'advice': 'self', 'counts': 'self', 'log': 'self',
+            '__enter__': 'self', '__exit__': 'self, kind, value, trace',
+        },
+    },
+    'desk': {'Desk': {'__init__': 'self', 'say': 'self, row', 'counts': 'self'}},
 }
 
 PROPERTIES = {
@@ -125,6 +147,8 @@ PROPERTIES = {
     'spotsets': {'Spots': 'members'},
     'walks': {'Walk': 'choices frames here is_over options given'},
     'guides': {'Guide': 'states breaks'},
+    'breakpoints': {'Breaks': 'on'},
+    'sessions': {'Session': 'state here frames wished passed'},
 }
 
 
@@ -159,6 +183,28 @@ class InterfaceTest(unittest.TestCase):
                                  ('guides', 'read', classmethod)):
             found = [own for own in vars(module_of(name)).values() if inspect.isclass(own) and word in vars(own)]
             self.assertEqual([vars(own)[word].__class__ for own in found], [kind])
+
+    def test_class_values(self):
+        self.assertEqual(vars(module_of('sessions').Session)['MOST'], 40)
+
+    def test_constants(self):
+        self.assertEqual(vars(module_of('programs'))['SHORTEST'], SHORTEST)
+
+    def test_the_families_of_errors(self):
+        errors = module_of('errors')
+        families = {
+            'PaperError': 'InvalidPaper', 'ProgramError': 'NotUsable',
+            'SessionError': 'InvalidEvent NothingToUndo BrokenOff', 'TextError': 'InvalidText InvalidRow',
+        }
+        self.assertEqual(errors.StepError.__bases__, (ValueError,))
+        for family, names in families.items():
+            self.assertEqual(getattr(errors, family).__bases__, (errors.StepError,))
+            for name in names.split():
+                self.assertEqual(getattr(errors, name).__bases__, (getattr(errors, family),))
+
+    def test_setters(self):
+        for module, name, word in (('walks', 'Walk', 'given'), ('sessions', 'Session', 'wished')):
+            self.assertIsNotNone(vars(getattr(module_of(module), name))[word].fset)
 
     def test_attributes(self):
         walk = module_of('walks').Walk(SHORTEST)
