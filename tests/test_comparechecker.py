@@ -248,9 +248,10 @@ class ClosedTest(Checks):
                         ('closed', rows[:k] + (rows[k - 1],) + rows[k + 1:]))
             turned = rows[:k - 1] + (rows[k], rows[k - 1]) + rows[k + 1:]
             self.raises(InvalidPaper, ('row', k), lets_within, PROGRAM, NEXT, STEP, ('closed', turned))
-            # The same name and pair, with more behind.
-            twice = rows[:k] + (rows[k - 1][:3] + ((),),) + rows[k:]
-            self.raises(InvalidPaper, ('row', k), lets_within, PROGRAM, NEXT, STEP, ('closed', twice))
+            # The same name and pair, with other arrivals and ends behind.
+            for more in (rows[k - 1][2:3] + ((),), (rows[k - 1][2] + ((1, (('never', 0, 0), LANDS)),), ())):
+                twice = rows[:k] + (rows[k - 1][:2] + more,) + rows[k:]
+                self.raises(InvalidPaper, ('row', k), lets_within, PROGRAM, NEXT, STEP, ('closed', twice))
 
     def test_first(self):
         rows = within_paper(PROGRAM, NEXT, STEP)[1]

@@ -5,12 +5,13 @@ from outandover.comparing import are_alike, breach, is_within
 from outandover.following import guide_stops
 from outandover.packedchecker import lets_packed
 from outandover.packing import arrivals_in, frames_behind, written_out
+from outandover.reaching import distance
 from outandover.stepping import passed_by
 from checks import Checks
 from oracle import Meeting, Stops, all_runs, guide_stops_by_rules, written
 from samples import (
     AGAIN, BACK, DEEP, F, FAULTS, G, GO, PROGRAM, RING, SAMPLES, STEP, STUCK, TWICE, WATCH, bolder, chain,
-    guided_programs, random_guide, random_program,
+    guided_programs, random_guide, random_program, random_tree,
 )
 
 
@@ -202,6 +203,47 @@ class BreachTest(Checks):
         self.check(PROGRAM, inner, one('go', (('f', 0), ('main', 2))),
                    breach(PROGRAM, inner, one('go', (('f', 0), ('main', 2)))), 3)
 
+    def test_the_nearest_of_several_spots(self):
+        # A guide that halts at these spots alone first halts at the nearest of them.
+        met = {}
+        programs = guided_programs() + tuple([random_tree(seed) for seed in range(60)])
+        for seed, program in enumerate(programs):
+            chance = Random(seed)
+            spots = sorted([(name, index) for name, lines in program for index in range(len(lines))])
+            spots.remove((program[0][0], 0))
+            cases = [(spot,) for spot in spots]
+            if len(spots) > 1:
+                cases.append(tuple(sorted(chance.sample(spots, 2))))
+            for breaks in cases:
+                distances = [distance(program, spot) for spot in breaks]
+                least = min([many for many in distances if many is not None], default=None)
+                found = breach(program, one('go', breaks), one('go'))
+                self.assertEqual(None if found is None else lets_packed(program, found), least)
+                met[least] = met.get(least, 0) + 1
+        self.assertGreater(max([many for many in met if many is not None]), 7)
+
+    def test_by_a_call_or_by_lines(self):
+        # From line 0 to line 1 by a call with so many arrivals, or by a fault in it and so many lines.
+        for inside in range(1, 6):
+            for many in range(1, 8):
+                own = [(('',), (k + 1 if k < many + 1 else 1,), ()) for k in range(2, many + 2)]
+                main = ((('f',), (1,), (('x', 2),)), (('',), (BACK,), ())) + tuple(own)
+                program = (('main', main), ('f', in_a_row(inside, (('fail', 'x'),))))
+                guide = one('go', (('main', 1),))
+                self.check(program, guide, one('go'), breach(program, guide, one('go')), min(inside + 1, many + 2))
+
+    def test_by_a_call_or_by_frames(self):
+        # To line 1 by a call with so many arrivals, or to the last of so many frames.
+        for inside in range(1, 6):
+            for many in range(1, 8):
+                names = 'abcdefgh'[:many]
+                deep = [(name, (((following,), (BACK,), ()),)) for name, following in zip(names, names[1:])]
+                deep.append((names[-1], ((('',), (BACK,), ()),)))
+                main = ((('a', 'zz'), (1,), ()), (('',), (BACK,), ()))
+                program = (('main', main), ('zz', in_a_row(inside, ()))) + tuple(deep)
+                guide = one('go', tuple(sorted([('main', 1), (names[-1], 0)])))
+                self.check(program, guide, one('go'), breach(program, guide, one('go')), min(inside + 1, many))
+
     def test_rings_and_frames_that_never_end(self):
         for program in (RING, STUCK, FAULTS):
             for guide in (one('next'), one('out'), STEP, one('go', ((program[-1][0], 0),))):
@@ -295,6 +337,13 @@ class ConsequencesTest(Checks):
         guide = random_guide(Random(3), program)
         self.gives(is_within(program, guide, GO), is_within, program, guide, GO)
         self.gives(breach(program, guide, STEP), breach, program, guide, STEP)
+
+
+def in_a_row(many, ways):
+    """So many lines that lead to one another and back; the first one has these ways besides."""
+    lines = [(('',), (k + 1 if k + 1 < many else BACK,), ()) for k in range(many)]
+    calls, own, handlers = lines[0]
+    return ((calls, own + ways, handlers),) + tuple(lines[1:])
 
 
 def passes(program, wished, run, guide):
