@@ -115,9 +115,12 @@ def calls_are_told(book, guides, ends, spot, pair):
 
 def steps_told(book, guides, ends, spot, pair):
     """What comes next in a frame: pairs of a step, the index of a line or an end, and of the pair in front of it."""
-    over = [(BACK, pair)] if "" in line_in(book, spot)[0] else []
+    over = {}
+    if "" in line_in(book, spot)[0]:
+        over[(BACK, pair)] = True
     for _, key in called_pairs(book, guides, spot, pair):
-        over.extend([(end, pair_handed_down(pair, then)) for end, then in ends[key]])
+        for end, then in ends[key]:
+            over[(end, pair_handed_down(pair, then))] = True
     return [(step, then) for end, then in over for step in steps_after(book, spot, (end,))]
 
 

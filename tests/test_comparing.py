@@ -222,15 +222,19 @@ class BreachTest(Checks):
                 met[least] = met.get(least, 0) + 1
         self.assertGreater(max([many for many in met if many is not None]), 7)
 
-    def test_by_a_call_or_by_lines(self):
-        # From line 0 to line 1 by a call with so many arrivals, or by a fault in it and so many lines.
-        for inside in range(1, 6):
-            for many in range(1, 8):
-                own = [(('',), (k + 1 if k < many + 1 else 1,), ()) for k in range(2, many + 2)]
-                main = ((('f',), (1,), (('x', 2),)), (('',), (BACK,), ())) + tuple(own)
-                program = (('main', main), ('f', in_a_row(inside, (('fail', 'x'),))))
-                guide = one('go', (('main', 1),))
-                self.check(program, guide, one('go'), breach(program, guide, one('go')), min(inside + 1, many + 2))
+    def test_by_calls_or_by_lines(self):
+        # From line 0 to the last line by so many calls with so many arrivals, or by a fault and so many lines.
+        for many in (1, 3):
+            for inside in range(1, 5):
+                for others in range(1, 16):
+                    last = many + others
+                    calling = [(('f',), (k + 1 if k + 1 < many else last,), (('x', many),)) for k in range(many)]
+                    own = [(('',), (k + 1,), ()) for k in range(many, last)]
+                    program = (('main', tuple(calling + own) + ((('',), (BACK,), ()),)),
+                               ('f', in_a_row(inside, (('fail', 'x'),))))
+                    guide = one('go', (('main', last),))
+                    found = breach(program, guide, one('go'))
+                    self.check(program, guide, one('go'), found, min(many * (inside + 1), others + 2))
 
     def test_by_a_call_or_by_frames(self):
         # To line 1 by a call with so many arrivals, or to the last of so many frames.
